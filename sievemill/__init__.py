@@ -1,0 +1,1 @@
+"""Closed-circuit grinding: a roller mill, its breakage matrix and its sieve, in exact fractions."""
