@@ -2,10 +2,11 @@
 
 from sievemill.circuit import Circuit
 from sievemill.reading import read_calls
-from sievemill.refusals import BadArgument, NoCircuit, NoSuchClass, TooLarge
+from sievemill.refusals import BadArgument, NoCircuit, NoSuchClass, NoSuchValue, NothingThere, TooLarge
 
 
-def ask(circuit, number, arguments):
+# Two functions, since all the calls in one would make it too long.
+def ask_1_to_9(circuit, number, arguments):
     if number == 1:
         return circuit.set_breakage(arguments[0], arguments[1])
     if number == 2:
@@ -25,6 +26,28 @@ def ask(circuit, number, arguments):
     return circuit.preview_grind(arguments[0])
 
 
+def ask_10_to_19(circuit, number, arguments):
+    if number == 10:
+        return circuit.has_steady_state(arguments[0])
+    if number == 11:
+        return circuit.steady_input(arguments[0])
+    if number == 12:
+        return circuit.steady_product(arguments[0])
+    if number == 13:
+        return circuit.steady_load(arguments[0])
+    if number == 14:
+        return circuit.load_ratio(arguments[0])
+    if number == 15:
+        return circuit.simulate_rounds(arguments[0], arguments[1])
+    if number == 16:
+        return circuit.totals()
+    if number == 17:
+        return circuit.passes_needed(arguments[0], arguments[1])
+    if number == 18:
+        return circuit.coarsest_cut(arguments[0], arguments[1])
+    return circuit.get_feed()
+
+
 class Desk:
     def __init__(self):
         self.circuit = None
@@ -39,7 +62,9 @@ class Desk:
             return self.create(arguments[0])
         if self.circuit is None:
             raise NoCircuit()
-        return ask(self.circuit, number, arguments)
+        if number < 10:
+            return ask_1_to_9(self.circuit, number, arguments)
+        return ask_10_to_19(self.circuit, number, arguments)
 
     def answer(self, number, arguments):
         try:
@@ -50,6 +75,10 @@ class Desk:
             return [-2]
         except BadArgument:
             return [-22]
+        except NoSuchValue:
+            return [-33]
+        except NothingThere:
+            return [-6]
         except TooLarge:
             return [-75]
 

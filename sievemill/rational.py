@@ -23,8 +23,8 @@ def plus(left, right):
     return lowest_terms(left[0] * right[1] + right[0] * left[1], left[1] * right[1])
 
 
-def percent_of(fraction, percentage):
-    return lowest_terms(fraction[0] * percentage, fraction[1] * 100)
+def scaled(fraction, num, den):
+    return lowest_terms(fraction[0] * num, fraction[1] * den)
 
 
 def total(fractions):
@@ -32,6 +32,10 @@ def total(fractions):
     for fraction in fractions:
         result = plus(result, fraction)
     return result
+
+
+def is_at_least(fraction, bound):
+    return fraction[0] * bound[1] >= bound[0] * fraction[1]
 
 
 def is_too_large(fraction):

@@ -13,5 +13,13 @@ class BadArgument(Exception):
     pass
 
 
+class NoSuchValue(Exception):
+    pass
+
+
+class NothingThere(Exception):
+    pass
+
+
 class TooLarge(Exception):
     pass

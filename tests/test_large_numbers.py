@@ -4,14 +4,14 @@ import unittest
 
 from sievemill.circuit import Circuit
 from sievemill.refusals import TooLarge
-from tests.helper import create, get_amounts, grind, last, load, preview_grind, run, set_breakage, set_feed
+from tests.helper import create, get_amounts, grind, ground_14, last, load, preview_grind, run, set_breakage, set_feed
 
 LIMIT = 10 ** 30
 Q14 = 99 ** 14
 D14 = 10 ** 28
 
-# After 14 passes at 99 hundredths, class 1 holds Q14 / D14 and class 0 the rest of 1.
-GROUND_14 = [create(2), set_breakage(1, [1, 99]), set_feed([0, 1]), load()] + [grind()] * 14
+# Class 1 holds Q14 / D14.
+GROUND_14 = ground_14()
 
 
 def mostly_staying(*steps):

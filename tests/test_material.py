@@ -5,8 +5,8 @@ import unittest
 from sievemill.circuit import Circuit
 from sievemill.refusals import BadArgument
 from tests.helper import (
-    LARGEST, amount_up_to, create, get_amounts, get_breakage, grind, last, load, preview_grind, remove_finer, run,
-    set_breakage, set_feed,
+    LARGEST, amount_up_to, create, get_amounts, get_breakage, grind, last, load, long_denominators, preview_grind,
+    remove_finer, run, set_breakage, set_feed,
 )
 
 THREE = [create(3), set_breakage(1, [30, 70]), set_breakage(2, [5, 20, 75]), set_feed([1, 2, 4]), load()]
@@ -153,13 +153,6 @@ class PreviewGrind(unittest.TestCase):
         circuit = Circuit(2)
         circuit.preview_grind(12)
         self.assertEqual(circuit.pass_count, 0)
-
-
-def long_denominators():
-    """Calls after which class 1 holds 1 / 25 ** 20, class 2 holds 1 / 2 ** 20, and all others hold nothing."""
-    calls = [create(4), set_breakage(2, [96, 0, 4]), set_feed([0, 0, 1, 0]), load()] + [grind()] * 20
-    calls += [remove_finer(1), set_breakage(2, [0, 100, 0]), grind(), load()]
-    return calls + [set_breakage(2, [50, 0, 50])] + [grind()] * 20 + [remove_finer(1)]
 
 
 if __name__ == "__main__":
